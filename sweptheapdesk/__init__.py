@@ -1,0 +1,1 @@
+"""A heap swept under choices: see sweptheapdesk.machine."""
