@@ -9,7 +9,6 @@ STR = 2
 COPY = 3
 CLEAR = 4
 SAME = 5
-ARG = 6
 
 # By the call's number: how many whole numbers it has, its row not among them.
 WHOLE_NUMBERS = (1, 2, 2, 2, 1, 2, 3)
