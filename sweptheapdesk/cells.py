@@ -24,6 +24,15 @@ def argument_cells(heap, head_place):
     return heap[first:first + argument_count(heap, head_place)]
 
 
+# A structure leads to its head and to each argument, as these are found by how they stand behind one another.
+def places_led_to(heap, cell):
+    if cell[0] == PLACE:
+        return [cell[1]]
+    if cell[0] == STRUCTURE:
+        return list(range(cell[1], cell[1] + 1 + argument_count(heap, cell[1])))
+    return []
+
+
 # Both cells are handed over looked through. Each structure is entered once: terms may share parts
 # so much that going down every path would not end.
 def stands_in(heap, variable, cell):

@@ -2,6 +2,7 @@
 
 from sweptheapdesk.single_calls import call_arg, call_clear, call_con, call_copy, call_new, call_same, call_str
 from sweptheapdesk.state import Machine
+from sweptheapdesk.whole_calls import call_back, call_choice, call_cut, call_heap, call_look, call_sweep, call_value
 
 NEW = 0
 CON = 1
@@ -9,10 +10,17 @@ STR = 2
 COPY = 3
 CLEAR = 4
 SAME = 5
+ARG = 6
+CHOICE = 7
+BACK = 8
+CUT = 9
+VALUE = 10
+LOOK = 11
+SWEEP = 12
 
 # By the call's number: how many whole numbers it has, its row not among them.
-WHOLE_NUMBERS = (1, 2, 2, 2, 1, 2, 3)
-CALLS_WITH_ROW = (STR,)
+WHOLE_NUMBERS = (1, 2, 2, 2, 1, 2, 3, 0, 0, 1, 0, 0, 0, 0)
+CALLS_WITH_ROW = (STR, VALUE)
 
 
 # Each call as a tuple: its number, the list of its whole numbers, its row (empty where it has none).
@@ -45,7 +53,21 @@ def answer(machine, number, numbers, row):
         return call_clear(machine, numbers[0])
     if number == SAME:
         return call_same(machine, numbers[0], numbers[1])
-    return call_arg(machine, numbers[0], numbers[1], numbers[2])
+    if number == ARG:
+        return call_arg(machine, numbers[0], numbers[1], numbers[2])
+    if number == CHOICE:
+        return call_choice(machine)
+    if number == BACK:
+        return call_back(machine)
+    if number == CUT:
+        return call_cut(machine, numbers[0])
+    if number == VALUE:
+        return call_value(machine, row)
+    if number == LOOK:
+        return call_look(machine)
+    if number == SWEEP:
+        return call_sweep(machine)
+    return call_heap(machine)
 
 
 def answers(calls):

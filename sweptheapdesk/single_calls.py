@@ -1,28 +1,11 @@
-"""The calls: each does what it is to do with a machine, and gives back the list of numbers it answers."""
+"""The calls about single registers: each gives back the list of numbers that it answers."""
 
 from sweptheapdesk.cells import CONSTANT, PLACE, STRUCTURE, argument_count, looked_through
+from sweptheapdesk.refusals import NOT_REFUSED, refusal
 from sweptheapdesk.sameness import make_same
-from sweptheapdesk.state import REGISTER_COUNT
 
 HIGHEST_SYMBOL = 999
 MOST_ARGUMENTS = 4
-
-NOT_REFUSED = 0
-NO_SUCH_REGISTER = -2
-OUT_OF_BOUNDS = -1
-HAS_NOTHING = -4
-
-
-# named: all registers that a call is handed; out_of_bounds: whether anything else in it is;
-# looked_at: the registers whose values it needs. The order of the three is promised.
-def refusal(machine, named, out_of_bounds, looked_at):
-    if max(named) >= REGISTER_COUNT:
-        return NO_SUCH_REGISTER
-    if out_of_bounds:
-        return OUT_OF_BOUNDS
-    if any([machine.registers[r] is None for r in looked_at]):
-        return HAS_NOTHING
-    return NOT_REFUSED
 
 
 def call_new(machine, r):

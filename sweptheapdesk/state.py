@@ -36,3 +36,20 @@ class Machine:
         self.heap[place] = cell
         if len(self.choices) > 0 and self.choices[-1].heap_length > place:
             self.trail.append(place)
+
+    # With copies of the registers, as the machine's own go on changing.
+    def choice_of_now(self):
+        return Choice(list(self.registers), len(self.heap), len(self.trail))
+
+    # The heap is cut last: behind a cut, the trail may have places that the choice's heap never had.
+    def heap_behind(self, choice):
+        heap = list(self.heap)
+        for place in self.trail[choice.trail_length:]:
+            heap[place] = (PLACE, place)
+        return heap[:choice.heap_length]
+
+    def back_to_topmost(self):
+        choice = self.choices[-1]
+        self.heap = self.heap_behind(choice)
+        self.trail = self.trail[:choice.trail_length]
+        self.registers = list(choice.registers)

@@ -116,6 +116,42 @@ class Language(unittest.TestCase):
                         self.assertIn(name.name, there)
                         self.assertIsNone(name.asname)
 
+    def test_no_two_files_draw_from_one_another(self):
+        drawn = {}
+        for path in files():
+            tree = ast.parse(path.read_text("utf-8"))
+            drawn[path.stem] = {node.module.split(".")[1] for node in tree.body if isinstance(node, ast.ImportFrom)}
+        while drawn:
+            last = [name for name, others in drawn.items() if not others & set(drawn)]
+            self.assertNotEqual(last, [], drawn)
+            for name in last:
+                drawn.pop(name)
+
+    def test_no_method_is_called_like_a_value(self):
+        methods = own_methods(trees())
+        values = {node.attr for tree in trees() for node in ast.walk(tree)
+                  if isinstance(node, ast.Attribute) and isinstance(node.ctx, ast.Store)}
+        self.assertEqual(methods & values, set())
+
+    def test_is_stands_beside_none_true_and_false_alone(self):
+        for tree in trees():
+            for node in ast.walk(tree):
+                if isinstance(node, ast.Compare):
+                    for operation, other in zip(node.ops, node.comparators):
+                        if isinstance(operation, (ast.Is, ast.IsNot)):
+                            self.assertIsInstance(other, ast.Constant)
+
+    def test_what_is_walked_at_once_is_not_kept(self):
+        walkers = {"list", "tuple", "dict", "sorted", "sum", "any", "all", "enumerate", "zip", "min", "max"}
+        for tree in trees():
+            walked = [node.iter for node in ast.walk(tree) if isinstance(node, (ast.For, ast.comprehension))]
+            walked += [node.args[0] for node in ast.walk(tree) if isinstance(node, ast.Call) and node.args
+                       and isinstance(node.func, ast.Name) and node.func.id in walkers]
+            for node in ast.walk(tree):
+                if isinstance(node, ast.Call) and isinstance(node.func, ast.Name):
+                    if node.func.id in ("zip", "enumerate", "reversed", "range"):
+                        self.assertIn(node, walked)
+
     def test_names(self):
         for tree in trees():
             bound = bound_names(tree)

@@ -1,10 +1,13 @@
-"""The refusals: -2, then -1, then -4; and all is as it was then."""
+"""The refusals: -2, then -1, then -4, then what a single call has; and all is as it was then."""
 
 import unittest
 
-from tests.helper import arg, clear, con, copy, do, last_told, machine_after, new, same, state, struct
+from tests.helper import (arg, back, choice, clear, con, copy, cut, do, heap, last_told, last_told_each, look,
+                          machine_after, new, same, state, struct, sweep, value)
 
 TOO_HIGH = (16, 17, 500, 999, 1000)
+# Register 8 has a term of size 1365.
+TOO_LARGE = [con(8, 1)] + [struct(8, 5, [8] * 4)] * 5
 
 
 class NoSuchRegister(unittest.TestCase):
@@ -52,6 +55,14 @@ class NoSuchRegister(unittest.TestCase):
         self.each_refused(lambda number: same(0, number))
         self.each_refused(lambda number: same(number, number))
 
+    def test_value_each_of_the_list(self):
+        self.assertEqual(last_told_each(con(15, 4), value([15])), [0, 1, 4])
+        self.each_refused(lambda number: value([number]))
+        for length in (2, 16, 17, 30):
+            for at in (0, 1, length - 1):
+                listed = [0, 15] * (length // 2) + [0] * (length % 2)
+                self.each_refused(lambda number: value(listed[:at] + [number] + listed[at + 1:]))
+
     def test_arg(self):
         self.each_refused(lambda number: arg(number, 0, 0))
         self.each_refused(lambda number: arg(0, 0, number))
@@ -71,6 +82,16 @@ class OutOfBounds(unittest.TestCase):
         for length in range(31):
             with self.subTest(length=length):
                 self.assertEqual(last_told(new(0), struct(1, 5, [0] * length)), 0 if 1 <= length <= 4 else -1)
+
+    def test_value_length_of_the_list(self):
+        for length in range(31):
+            with self.subTest(length=length):
+                self.assertEqual(last_told_each(new(0), value([0] * length)),
+                                 [0] + [0, 0] * length if length <= 16 else [-1])
+
+    def test_cut_has_any_k(self):
+        for k in (0, 1, 4, 16, 20, 999, 1000):
+            self.assertEqual(last_told(cut(k)), 0)
 
     def test_arg_has_any_i(self):
         for i in (0, 1, 4, 16, 999, 1000):
@@ -111,6 +132,18 @@ class HasNothing(unittest.TestCase):
         self.assertEqual(last_told(new(0), arg(1, 1000, 0)), -4)
         self.assertEqual(last_told(new(0), struct(0, 5, [0]), arg(0, 0, 1)), 1)
 
+    def test_value(self):
+        self.assertEqual(last_told(value([0])), -4)
+        for length in (1, 2, 3, 16):
+            for at in range(length):
+                listed = [0] * length
+                listed[at] = 9
+                self.assertEqual(last_told(new(0), value(listed)), -4)
+
+    def test_what_had_nothing_behind_a_choice(self):
+        self.assertEqual(last_told(choice(), new(0), back(), value([0])), -4)
+        self.assertEqual(last_told(choice(), new(0), back(), same(0, 0)), -4)
+
     def test_not_of_new_con_clear(self):
         self.assertEqual([last_told(new(0)), last_told(con(0, 0)), last_told(clear(0))], [0, 0, 0])
 
@@ -123,15 +156,23 @@ class SeveralAtOnce(unittest.TestCase):
         for call in (con(16, 1000), struct(16, 1000, [9]), struct(16, 1, []), struct(0, 1000, [16]),
                      struct(0, 1, [9, 16]), struct(0, 1, [16, 9]), struct(16, 1, [9]), struct(0, 1, [9] * 29 + [16]),
                      struct(0, 1, [16, 9, 9, 9, 9]), struct(16, 1000, [1000] * 30), copy(9, 16), copy(16, 9),
-                     same(9, 16), same(16, 9), arg(9, 0, 16), arg(16, 0, 9), arg(9, 1000, 16)):
+                     same(9, 16), same(16, 9), arg(9, 0, 16), arg(16, 0, 9), arg(9, 1000, 16), value([9, 16]),
+                     value([16, 9]), value([9] * 16 + [16]), value([16] * 17), value([16] + [9] * 29),
+                     value([8, 16]), value([16, 8])):
             with self.subTest(call=call):
-                self.assertEqual(last_told(call), -2)
+                self.assertEqual(last_told(*TOO_LARGE, call), -2)
 
     def test_out_of_bounds_ahead_of_nothing(self):
         for call in (struct(0, 1000, [9]), struct(0, 1, []), struct(0, 1, [9] * 5), struct(0, 1000, [9] * 30),
-                     struct(0, 1000, [])):
+                     struct(0, 1000, []), value([9] * 17), value([9] * 30), value([8] * 17), value([8] + [9] * 16)):
             with self.subTest(call=call):
-                self.assertEqual(last_told(call), -1)
+                self.assertEqual(last_told(*TOO_LARGE, call), -1)
+
+    def test_nothing_ahead_of_too_large(self):
+        for call in (value([8, 9]), value([9, 8]), value([8] * 15 + [9])):
+            with self.subTest(call=call):
+                self.assertEqual(last_told(*TOO_LARGE, call), -4)
+        self.assertEqual(last_told(*TOO_LARGE, value([8])), -5)
 
     def test_nothing_ahead_of_other_answers(self):
         self.assertEqual(last_told(con(0, 1), arg(9, 5, 0)), -4)
@@ -139,27 +180,34 @@ class SeveralAtOnce(unittest.TestCase):
 
 
 class AllIsAsItWas(unittest.TestCase):
+    BUILT = TOO_LARGE + [new(0), con(1, 4), struct(2, 3, [0, 1]), new(5), choice(), same(5, 1), new(6)] + [
+        choice()] * 19
     REFUSED = (new(16), con(16, 0), con(0, 1000), struct(16, 1, [0]), struct(0, 1, [16]), struct(0, 1000, [0]),
                struct(0, 1, []), struct(0, 1, [0] * 5), struct(0, 1, [1, 9]), struct(0, 1, [9, 1]), copy(16, 0),
                copy(0, 16), copy(9, 0), clear(16), same(0, 16), same(16, 0), same(0, 9), same(9, 0), arg(16, 0, 0),
-               arg(2, 0, 16), arg(9, 0, 0))
+               arg(2, 0, 16), arg(9, 0, 0), choice(), value([16]), value([0] * 17), value([0, 9]), value([0, 8]))
 
     def test_after_each_refusal(self):
         for call in self.REFUSED:
             with self.subTest(call=call):
-                machine = machine_after(new(0), con(1, 4), struct(2, 3, [0, 1]))
+                machine = machine_after(*self.BUILT)
                 before = state(machine)
-                self.assertLess(do(machine, call)[0][0], 0)
+                answered = do(machine, call)[0]
+                self.assertEqual(len(answered), 1)
+                self.assertLess(answered[0], 0)
                 self.assertEqual(state(machine), before)
 
     def test_other_calls_answer_the_same_behind_them(self):
-        built = [new(0), con(1, 4), struct(2, 3, [0, 1])]
-        behind = [arg(2, 0, 3), same(3, 1), same(0, 1), struct(4, 3, [1, 0]), same(4, 2), same(0, 0), copy(9, 0)]
+        behind = [arg(2, 0, 3), same(3, 1), same(0, 1), struct(4, 3, [1, 0]), same(4, 2), same(0, 0), copy(9, 0),
+                  value([2, 5]), heap(), back(), cut(1), look(), value([0, 5]), sweep(), back(), value([0, 5]), heap()]
+        expected = do(machine_after(*self.BUILT), *behind)
+        self.assertEqual(expected[:8], [[1], [1], [1], [0], [1], [1], [-4], [0, 3, 3, 1, 4, 1, 4, 1, 4]])
+        self.assertEqual(expected[9:-1], [[1], [1], [31, 1, 1], [0, 0, 0, 1, 4], [0, 0], [1], [0, 0, 0, 0, 1]])
         for call in self.REFUSED:
             with self.subTest(call=call):
-                machine = machine_after(*built)
+                machine = machine_after(*self.BUILT)
                 do(machine, call)
-                self.assertEqual(do(machine, *behind), [[1], [1], [1], [0], [1], [1], [-4]])
+                self.assertEqual(do(machine, *behind), expected)
 
 
 if __name__ == "__main__":
